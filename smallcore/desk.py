@@ -6,6 +6,9 @@ from smallcore.reader import Reader
 PUT = 1
 TAKE = 2
 SET = 3
+GET = 4
+RUN = 5
+WHY = 6
 
 
 class UnknownCall(ValueError):
@@ -30,6 +33,16 @@ def answer_set(machine, reader):
     return machine.set_value(which, value)
 
 
+def answer_get(machine, reader):
+    which = reader.read_number()
+    return machine.get_value(which)
+
+
+def answer_run(machine, reader):
+    steps = reader.read_number()
+    return machine.run(steps)
+
+
 def answer_call(machine, reader):
     call = reader.read_number()
     if call == PUT:
@@ -38,6 +51,12 @@ def answer_call(machine, reader):
         return answer_take(machine, reader)
     if call == SET:
         return answer_set(machine, reader)
+    if call == GET:
+        return answer_get(machine, reader)
+    if call == RUN:
+        return answer_run(machine, reader)
+    if call == WHY:
+        return machine.why()
     raise UnknownCall(f"no call has the number {call}")
 
 

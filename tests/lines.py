@@ -11,6 +11,9 @@ MOST_PUT = 15900
 MOST_TAKEN = 2000
 MOST_CALLS = 400
 MOST_VALUE = 18446744073709551615
+MOST_STEPS = 2 ** 40
+LEAST_ASKED = -2 ** 63
+MOST_ASKED = 2 ** 63 - 1
 
 
 class Case(unittest.TestCase):
@@ -42,6 +45,18 @@ def set_(which, value):
     return [3, which, value]
 
 
+def get(which):
+    return [4, which]
+
+
+def run(steps):
+    return [5, steps]
+
+
+def why():
+    return [6]
+
+
 def join(*calls):
     return [number for call in calls for number in call]
 
@@ -61,6 +76,20 @@ def split(answered):
 
 def ask(*calls):
     return split(answers(join(*calls)))
+
+
+def read_all():
+    """take calls that go over the whole memory."""
+    places = range(0, MEMORY_SIZE, MOST_TAKEN)
+    return [take(place, min(MOST_TAKEN, MEMORY_SIZE - place)) for place in places]
+
+
+def joined_rows(rows):
+    """The bytes that take calls answered, one behind another."""
+    for row in rows:
+        if row[0] != 0:
+            raise AssertionError("a take was refused")
+    return [number for row in rows for number in row[1:]]
 
 
 def pattern(n, start=1):

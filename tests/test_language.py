@@ -69,11 +69,8 @@ def bound_names(tree):
 
 def attribute_names(tree):
     """The methods and values that the file's own classes have."""
-    for node in ast.walk(tree):
-        if isinstance(node, ast.Attribute) and isinstance(node.ctx, ast.Store):
-            yield node.attr
-        elif isinstance(node, ast.ClassDef):
-            yield from (part.name for part in node.body if isinstance(part, ast.FunctionDef))
+    yield from method_names(tree)
+    yield from value_names(tree)
 
 
 def look_at_names(tree, attributes):
@@ -109,6 +106,45 @@ def look_at_top(tree):
     names = list(bound_names(ast.Module([node for node in tree.body if isinstance(node, ast.Assign)], [])))
     if len(names) != len(set(names)):
         faults.append("L15: a name of the top is bound twice")
+    return faults
+
+
+def method_names(tree):
+    for node in ast.walk(tree):
+        if isinstance(node, ast.ClassDef):
+            yield from (part.name for part in node.body if isinstance(part, ast.FunctionDef))
+
+
+def value_names(tree):
+    for node in ast.walk(tree):
+        if isinstance(node, ast.Attribute) and isinstance(node.ctx, ast.Store):
+            yield node.attr
+
+
+def look_at_kept(tree):
+    """A list or dict of the top holds none itself and is read by an index, a walk, in, len or get alone."""
+    faults = []
+    kept = {}
+    for node in tree.body:
+        if isinstance(node, ast.Assign) and isinstance(node.value, (ast.List, ast.Dict)):
+            kept[node.targets[0].id] = node
+            if any(isinstance(part, (ast.List, ast.Dict)) for part in ast.walk(node.value) if part is not node.value):
+                faults.append("L15: a list or dict within " + node.targets[0].id)
+    read = set()
+    for node in ast.walk(tree):
+        if isinstance(node, ast.Subscript) and isinstance(node.ctx, ast.Load):
+            read.add(node.value)
+        elif isinstance(node, ast.Compare):
+            read.update(node.comparators)
+        elif isinstance(node, (ast.For, ast.comprehension)):
+            read.add(node.iter)
+        elif isinstance(node, ast.Attribute) and node.attr in ("get", "items", "keys", "values", "copy"):
+            read.add(node.value)
+        elif isinstance(node, ast.Call) and isinstance(node.func, ast.Name) and node.func.id in ("len", "list", "dict"):
+            read.update(node.args)
+    for node in ast.walk(tree):
+        if isinstance(node, ast.Name) and node.id in kept and isinstance(node.ctx, ast.Load) and node not in read:
+            faults.append("L15: the use of %s in line %d" % (node.id, node.lineno))
     return faults
 
 
@@ -151,7 +187,7 @@ def look_at(text, attributes=()):
     """The faults of one file; attributes are those of the classes of other files."""
     tree = ast.parse(text)
     known = set(attributes) | set(attribute_names(tree))
-    faults = look_at_text(text) + look_at_top(tree) + look_at_names(tree, known)
+    faults = look_at_text(text) + look_at_top(tree) + look_at_kept(tree) + look_at_names(tree, known)
     return faults + [fault for fault in map(look_at_node, ast.walk(tree)) if fault]
 
 
@@ -174,6 +210,27 @@ class Package(unittest.TestCase):
         attributes = {name for text in texts.values() for name in attribute_names(ast.parse(text))}
         for name, text in texts.items():
             self.assertEqual(look_at(text, attributes), [], name)
+
+    def test_no_name_is_a_method_and_a_value(self):
+        trees = [ast.parse(path.read_text()) for path in self.files()]
+        methods = [name for tree in trees for name in method_names(tree)]
+        values = [name for tree in trees for name in value_names(tree)]
+        self.assertEqual(set(methods) & set(values), set(), "L18")
+        own = [name for name in methods if name != "__init__"]
+        self.assertEqual(len(own), len(set(own)), "L18: a method stands twice")
+        for kind in (str, int, list, dict, set, bytes, float):
+            self.assertEqual({name for name in own + values if hasattr(kind, name)}, set(), "L26")
+
+    def test_no_local_is_called_like_an_import_or_a_class(self):
+        for path in self.files():
+            tree = ast.parse(path.read_text())
+            top = [alias.name for node in tree.body if isinstance(node, ast.ImportFrom) for alias in node.names]
+            top += [node.name for node in tree.body if isinstance(node, (ast.ClassDef, ast.FunctionDef))]
+            for node in ast.walk(tree):
+                if isinstance(node, ast.FunctionDef):
+                    local = {name for part in node.body for name in bound_names(part)}
+                    local.update(part.arg for part in node.args.args)
+                    self.assertEqual(local & set(top), set(), "L15: " + path.name)
 
     def test_imports_name_what_their_file_defines_and_go_one_way(self):
         drawn = {}
@@ -200,7 +257,9 @@ class TheLookItself(unittest.TestCase):
     def test_faults_are_found(self):
         for text in (
             "import sys\n", "from os import path\n", "from smallcore.desk import *\n", "from .desk import answers\n",
-            "A = 1\nA = 2\n", "A = len([])\n", "print(1)\n", "def f(*x):\n    return x\n", "x = y = 1\n",
+            "A = {1: [2]}\n", "A = [1]\n\n\ndef f():\n    return A\n", "A = {1: 2}\n\n\ndef f(x):\n    A[x] = 1\n",
+            "A = [1]\n\n\ndef f(x):\n    A.append(x)\n", "A = 1\nA = 2\n", "A = len([])\n", "print(1)\n",
+            "def f(*x):\n    return x\n", "x = y = 1\n",
             "def f(x):\n    return x / 2\n", "def f(x):\n    return {k for k in x}\n", "A = 1.5\n", "A = b''\n",
             "def f(x):\n    assert x\n", "def f(x):\n    del x\n", "def f(x):\n    return getattr(x, 'a')\n",
             "def f(x):\n    return x.sort()\n", "def f(bytes):\n    return bytes\n", "def f(_x):\n    return 1\n",

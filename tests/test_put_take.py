@@ -3,21 +3,11 @@
 import random
 import unittest
 
-from lines import HIGHEST, LOWEST, MEMORY_SIZE, MOST_PUT, MOST_TAKEN, Case, ask, pattern, put, take
-
-
-def read_all():
-    """take calls that go over the whole memory."""
-    places = range(0, MEMORY_SIZE, MOST_TAKEN)
-    return [take(place, min(MOST_TAKEN, MEMORY_SIZE - place)) for place in places]
+from lines import HIGHEST, LOWEST, MEMORY_SIZE, MOST_PUT, Case, ask, joined_rows, pattern, put, read_all, take
 
 
 def whole_memory(*calls):
-    rows = ask(*calls, *read_all())[len(calls):]
-    for row in rows:
-        if row[0] != 0:
-            raise AssertionError("a take was refused")
-    return [number for row in rows for number in row[1:]]
+    return joined_rows(ask(*calls, *read_all())[len(calls):])
 
 
 class PutThenTake(Case):
