@@ -10,6 +10,8 @@ NOT_IN_MEMORY = 4
 STOPS = {"ecall": 1, "ebreak": 2, "reserved": 3}
 SIZES = {"lb": 1, "lh": 2, "lw": 4, "ld": 8, "lbu": 1, "lhu": 2, "lwu": 4, "sb": 1, "sh": 2, "sw": 4, "sd": 8}
 SIGNED_LOADS = ("lb", "lh", "lw")
+# As many as there are places in memory for an instruction: what stands there at one time can all be known.
+MOST_KNOWN_WORDS = 32768
 
 
 def do_registers(machine, instruction, after):
@@ -125,9 +127,13 @@ def read_word(word):
 
 def instruction_of(machine, word):
     # Kept by the word, not by its address: a word says the same wherever it stands, even where it was just stored.
-    if word not in machine.known_words:
-        machine.known_words[word] = read_word(word)
-    return machine.known_words[word]
+    known_words = machine.known_words
+    if word not in known_words:
+        # A program may store words that are always new: all are forgotten in time, so that room for them has an end.
+        if len(known_words) >= MOST_KNOWN_WORDS:
+            known_words.clear()
+        known_words[word] = read_word(word)
+    return known_words[word]
 
 
 def do_next(machine):

@@ -2,6 +2,7 @@
 
 import random
 import unittest
+from unittest import mock
 
 from assembler import PIECES, ROWS, code, word
 from lines import Case, ask, get, put, run, set_, take, why
@@ -152,6 +153,12 @@ class Programs(Case):
     def test_programs(self):
         for seed in range(150):
             self.program(seed)
+
+    def test_programs_whose_words_are_often_forgotten(self):
+        for most in (1, 2, 7):
+            with mock.patch("smallcore.execute.MOST_KNOWN_WORDS", most):
+                for seed in range(1000, 1010):
+                    self.program(seed)
 
 
 class TheModelItself(Case):
